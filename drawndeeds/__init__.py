@@ -1,0 +1,1 @@
+"""Drawndeeds: deeds drawn by weights, and how soon a walk forgets."""
