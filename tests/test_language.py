@@ -16,6 +16,13 @@ INTERFACE = {
     "heappapers": "heap_paper judge_heap shut_list judge_shut_list",
     "lots": "cut does_book tight_lots words_for side_by_side",
     "counts": "word_counts head_and_loop lengths has_length",
+    "sheets": "check_sheet is_fraction letter_of part_of parts_of with_part without_part",
+    "lexemes": "lexemes",
+    "sheettexts": "read_sheet read_word sheet_text word_text",
+    "comings": "coming_paper barring_paper judge_coming judge_barring kinds",
+    "powers": "power lead_and_ring settled_power settled_members mending_paper judge_mending",
+    "ranks": "meeting_pairs least_rank apart_places rank_paper judge_rank",
+    "leastlots": "least_lot partings reaches turnings told_by member_of",
 }
 
 BUILTINS = (
@@ -268,9 +275,12 @@ class Form(unittest.TestCase):
             for node in tree.body:
                 if isinstance(node, ast.Assign):
                     self.assertTrue(node.targets[0].id.isupper(), name)
+            tables = [node.targets[0].id for node in tree.body if isinstance(node, ast.Assign)
+                      and isinstance(node.value, (ast.List, ast.Dict))]
+            indexed = [node.value for node in ast.walk(tree) if isinstance(node, ast.Subscript)]
             for node in ast.walk(tree):
-                if isinstance(node, (ast.Global, ast.Nonlocal)):
-                    self.fail(name)
+                if isinstance(node, ast.Name) and node.id in tables and isinstance(node.ctx, ast.Load):
+                    self.assertIn(node, indexed, f"{name}:{node.lineno}")
 
 
 if __name__ == "__main__":

@@ -1,0 +1,155 @@
+"""The forms of texts: where a text goes wrong, and which lexemes belong together.
+
+Each function goes through the rows that lexemes.scanned returns. Their last row is of no kind that a form asks
+for, so no function comes behind it, and its place is the one where a text ends too early or has no lexeme.
+"""
+
+from drawndeeds.errors import BadText
+from drawndeeds.sheets import SORTS
+
+
+def behind_lexeme(rows, at, lexeme):
+    """Return the place behind this very lexeme; raises BadText(place) if another one stands there."""
+    if rows[at][1] != lexeme:
+        raise BadText(rows[at][2])
+    return at + 1
+
+
+def behind_kind(rows, at, kind):
+    """Return the place behind a lexeme of a kind; raises BadText(place) if another one stands there."""
+    if rows[at][0] != kind:
+        raise BadText(rows[at][2])
+    return at + 1
+
+
+def check_end(rows, at):
+    """Raise BadText(place) if the text goes on."""
+    behind_kind(rows, at, "end")
+
+
+def behind_all(rows, at, kind):
+    """Return the place behind all lexemes of a kind that stand there."""
+    while rows[at][0] == kind:
+        at += 1
+    return at
+
+
+def behind_numerals(rows, at):
+    """Return the place behind N*."""
+    return behind_all(rows, at, "numeral")
+
+
+def behind_names(rows, at):
+    """Return the place behind NAME*."""
+    return behind_all(rows, at, "name")
+
+
+def behind_items(rows, at):
+    """Return the place behind ITEM*."""
+    depth = 0
+    while True:
+        if rows[at][1] == "(":
+            depth += 1
+            at += 1
+        elif rows[at][0] == "name":
+            at = behind_times(rows, at + 1)
+        elif rows[at][1] == ")" and depth > 0:
+            depth -= 1
+            at = behind_times(rows, at + 1)
+        elif depth > 0:
+            raise BadText(rows[at][2])
+        else:
+            return at
+
+
+def behind_times(rows, at):
+    """Return the place behind [^ N]."""
+    if rows[at][1] == "^":
+        return behind_kind(rows, at + 1, "numeral")
+    return at
+
+
+def behind_rows(rows, at):
+    """Return the place behind [ROW MORE*]."""
+    if rows[at][0] != "numeral":
+        return at
+    at = behind_numerals(rows, at)
+    while rows[at][1] == ",":
+        at = behind_numerals(rows, behind_kind(rows, at + 1, "numeral"))
+    return at
+
+
+def behind_integers(rows, at):
+    """Return the place behind INTEGER*."""
+    while rows[at][0] == "numeral" or rows[at][1] == "-":
+        at = behind_integer(rows, at)
+    return at
+
+
+def behind_integer(rows, at):
+    """Return the place behind [-] N."""
+    if rows[at][1] == "-":
+        at += 1
+    return behind_kind(rows, at, "numeral")
+
+
+def behind_fractions(rows, at):
+    """Return the place behind FRACTION*."""
+    while rows[at][0] == "numeral" or rows[at][1] == "-":
+        at = behind_integer(rows, at)
+        if rows[at][1] == "/":
+            at = behind_kind(rows, at + 1, "numeral")
+    return at
+
+
+BEHIND_BODIES = {
+    "deed": behind_numerals,
+    "word": behind_items,
+    "lead": behind_numerals,
+    "lot": behind_names,
+    "field": behind_numerals,
+    "parting": behind_rows,
+    "weights": behind_integers,
+    "chances": behind_fractions,
+}
+
+
+def read_rows(rows, at, words):
+    """Return the list of what stands from a place on and begins with one of the words, and the place behind.
+
+    Each one is a triple: the word with which it begins, its name, and the list of the lexemes behind that.
+    """
+    found = []
+    while rows[at][1] in words:
+        word = rows[at][1]
+        start = behind_kind(rows, at + 1, "name")
+        behind_body = BEHIND_BODIES[word]
+        end = behind_body(rows, start)
+        at = behind_lexeme(rows, end, ";")
+        found.append((word, rows[start - 1][1], rows[start:end]))
+    return found, at
+
+
+def sheet_form(rows):
+    """Return the numeral of the places, the list of the deeds and that of the parts of a SHEET.
+
+    Raises BadText(place) with the first wrong place.
+    """
+    at = behind_lexeme(rows, 0, "sheet")
+    at = behind_lexeme(rows, at, "{")
+    at = behind_lexeme(rows, at, "places")
+    numeral = rows[at][1]
+    at = behind_kind(rows, at, "numeral")
+    at = behind_lexeme(rows, at, ";")
+    deeds, at = read_rows(rows, at, ("deed",))
+    parts, at = read_rows(rows, at, SORTS)
+    at = behind_lexeme(rows, at, "}")
+    check_end(rows, at)
+    return numeral, deeds, parts
+
+
+def word_form(rows):
+    """Return the lexemes of a WORD by itself; raises BadText(place) with the first wrong place."""
+    at = behind_items(rows, 0)
+    check_end(rows, at)
+    return rows[:at]
