@@ -103,7 +103,7 @@ def told_fractions(body):
 
 def told_word(letters, body):
     """Return the word that items tell; raises TooMany() if it has more than 10,000 letters."""
-    # What is told within brackets, one list for each bracket that is open, or None where it is too much.
+    # A list for each bracket that is open; None stands for too much, which may still be done 0 times.
     levels = [[]]
     at = 0
     while at < len(body):
