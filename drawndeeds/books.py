@@ -85,6 +85,11 @@ def is_word(g, value):
     return word_fault(g, value) is None
 
 
+def is_word_pair(g, value):
+    """Tell whether value, which may be anything, is a pair of words of g letters."""
+    return isinstance(value, tuple) and len(value) == 2 and is_word(g, value[0]) and is_word(g, value[1])
+
+
 def idle(n):
     """Return the deed that leads each of n places to itself."""
     return tuple(range(n))

@@ -1,6 +1,6 @@
 """Comings: which members are made of which, behind, ahead and around, with papers for it and against it."""
 
-from drawndeeds.books import done, is_deed, is_word, product
+from drawndeeds.books import done, is_deed, is_word_pair, product
 from drawndeeds.heaps import grown, left_steps, right_steps
 
 
@@ -51,12 +51,9 @@ def barring_paper(book, way, a, m):
 
 def judge_coming(book, way, a, m, value):
     """Return None if value, which may be anything, is a coming paper, or its first fault."""
-    if not isinstance(value, tuple) or len(value) != 2:
+    if not is_word_pair(len(book[1]), value):
         return ("form",)
     u, v = value
-    g = len(book[1])
-    if not is_word(g, u) or not is_word(g, v):
-        return ("form",)
     if (way == "behind" and u != ()) or (way == "ahead" and v != ()):
         return ("side",)
     if product(product(done(book, u), a), done(book, v)) != m:
@@ -102,23 +99,51 @@ def step_fault(book, way, told):
 def kinds(book, way):
     """Return the list of the kinds, tuples of members in the heap's order, by their first members."""
     members = grown(book)[0]
-    comings = numbers_that_come(book, way)
-    placed = {}
-    found = []
-    for number in range(len(members)):
-        if number not in placed:
-            kind = [other for other in sorted(comings[number]) if number in comings[other]]
-            for other in kind:
-                placed[other] = True
-            found.append(tuple([members[other] for other in kind]))
-    return found
-
-
-def numbers_that_come(book, way):
-    """Return for each member the dict that has the numbers of all members that come of it."""
     right, left = steps_of_way(book, way)
-    onward = [sorted(set(behind + ahead)) for behind, ahead in zip(right, left)]
-    return [numbers_from(onward, start) for start in range(len(onward))]
+    found = mutual([behind + ahead for behind, ahead in zip(right, left)])
+    return [tuple([members[number] for number in numbers]) for numbers in found]
+
+
+def mutual(onward):
+    """Return the lists of the numbers from each of which steps lead to all of its list, by their first ones.
+
+    onward has for each number the list of those to which one step leads.
+    """
+    lists = {}
+    for number, mark in enumerate(mutual_marks(onward)):
+        lists.setdefault(mark, []).append(number)
+    return list(lists.values())
+
+
+def mutual_marks(onward):
+    """Return a mark for each number; two have the same one exactly if steps lead from each to the other one."""
+    marks = [None] * len(onward)
+    met = [None] * len(onward)
+    rests = [list(steps) for steps in onward]
+    # Those that are met and have no mark, and of these the ones from which no step to one met ahead is known.
+    waiting, firsts = [], []
+    for start in range(len(onward)):
+        path = [start] if met[start] is None else []
+        while len(path) > 0:
+            here = path[-1]
+            if met[here] is None:
+                met[here] = len(waiting)
+                waiting.append(here)
+                firsts.append(here)
+            rest = rests[here]
+            while len(rest) > 0 and met[rest[-1]] is not None:
+                other = rest.pop()
+                while marks[other] is None and met[firsts[-1]] > met[other]:
+                    firsts.pop()
+            if len(rest) > 0:
+                path.append(rest.pop())
+                continue
+            path.pop()
+            if firsts[-1] == here:
+                firsts.pop()
+                while marks[here] is None:
+                    marks[waiting.pop()] = here
+    return marks
 
 
 def numbers_from(onward, start):

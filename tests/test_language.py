@@ -23,6 +23,14 @@ INTERFACE = {
     "powers": "power lead_and_ring settled_power settled_members mending_paper judge_mending",
     "ranks": "meeting_pairs least_rank apart_places rank_paper judge_rank",
     "leastlots": "least_lot partings reaches turnings told_by member_of",
+    "faces": "is_face all_faces out_paper judge_out least_face face_of_word face_of_member meet join members_of key",
+    "lattice": "signed summed unsummed floors mark_row judge_marks",
+    "letterlots": "lot_of held_number held_by_lots",
+    "triangles": "triangle triangle_times judge_triangle",
+    "unlike": "unlike_words judge_unlike",
+    "speeds": "times judge_times times_cut times_together",
+    "homecomings": "homecomings homecomings_by",
+    "tables": "table_of member_table multiplied power_of trace_of",
 }
 
 BUILTINS = (
