@@ -31,6 +31,13 @@ INTERFACE = {
     "speeds": "times judge_times times_cut times_together",
     "homecomings": "homecomings homecomings_by",
     "tables": "table_of member_table multiplied power_of trace_of",
+    "coefficients": "coefficients_of least_coefficients done_on traces_of traces_by by_traces times_in by_roots",
+    "atweights": "face_speeds speeds_at telling_weights full_sum judge_speeds",
+    "alike": "pairs telling_word are_alike judge_telling likeness judge_likeness",
+    "keptlots": "is_kept least_kept kept_lots book_of_lot rest_of pieces book_of_piece",
+    "lumps": "is_kept_parting kept_with kept_partings joined common lumped",
+    "ends": "comes_to way_into ends end_paper judge_end_paper",
+    "resting": "does_rest end_share end_shares trees_into tree_sum",
 }
 
 BUILTINS = (
