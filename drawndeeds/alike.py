@@ -1,7 +1,7 @@
 """Alike books: each word holds as many places in the one as in the other."""
 
 from drawndeeds.books import held, idle, is_deed, is_word, product
-from drawndeeds.heaps import MOST_MEMBERS, least_words_of, walked
+from drawndeeds.heaps import MOST_MEMBERS, walked, word_to
 from drawndeeds.letterlots import held_number
 from drawndeeds.lots import side_by_side
 
@@ -31,7 +31,7 @@ def telling_word(book, other):
     walk, found = walked_pairs(book, other)
     for number, pair in enumerate(found):
         if not hold_equally(pair):
-            return least_words_of(walk)[number]
+            return word_to(walk, number)
     return None
 
 

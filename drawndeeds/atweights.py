@@ -2,7 +2,7 @@
 
 from drawndeeds.coefficients import coefficients_of, times_in
 from drawndeeds.faces import all_faces, least_reach, reaches_of
-from drawndeeds.heaps import grown, walked
+from drawndeeds.heaps import grown
 from drawndeeds.lattice import faces_of_words
 from drawndeeds.triangles import triangle, triangle_times
 from drawndeeds.words import is_integer
@@ -33,7 +33,7 @@ def speeds_at(book, weights):
 def telling_weights(book):
     """Return the telling weights of a book."""
     weights = [1]
-    for _ in walked(book).members[1:]:
+    for _ in grown(book)[0][1:]:
         weights.append(weights[-1] * (2 * book[0] + 1))
     return tuple(weights)
 

@@ -1,52 +1,81 @@
 """Comings: which members are made of which, behind, ahead and around, with papers for it and against it."""
 
 from drawndeeds.books import done, is_deed, is_word_pair, product
-from drawndeeds.heaps import grown, left_steps, right_steps
+from drawndeeds.heaps import walked
 
 
-def coming_papers(book, way, a):
-    """Return the dict that has for the number of each member that comes of a member a coming paper."""
-    right, left = steps_of_way(book, way)
-    start = grown(book)[2][a]
-    papers = {start: ((), ())}
+def onward_in_way(walk, way):
+    """Return for each member the list of the numbers of the members that come of it in a way by one letter.
+
+    The right steps stand ahead of the left ones, each letter by letter.
+    """
+    if way == "behind":
+        return walk.right
+    if way == "ahead":
+        return walk.left
+    return [right + left for right, left in zip(walk.right, walk.left)]
+
+
+def numbers_from(onward, start):
+    """Return the dict that has all numbers to which steps lead from one."""
+    seen = {start: True}
     row = [start]
     at = 0
     while at < len(row):
+        steps = onward[row[at]]
+        at += 1
+        for number in steps:
+            if number not in seen:
+                seen[number] = True
+                row.append(number)
+    return seen
+
+
+def step_back(onward, start, end):
+    """Return the dict that has for numbers the one ahead of them on a shortest way from start, and which step it takes.
+
+    It has the end, and all on the way to it, if steps lead there.
+    """
+    back = {start: None}
+    row = [start]
+    at = 0
+    while at < len(row) and end not in back:
         here = row[at]
         at += 1
-        u, v = papers[here]
-        found = [(number, (u, v + (letter,))) for letter, number in enumerate(right[here])]
-        found += [(number, ((letter,) + u, v)) for letter, number in enumerate(left[here])]
-        for number, paper in found:
-            if number not in papers:
-                papers[number] = paper
+        for step, number in enumerate(onward[here]):
+            if number not in back:
+                back[number] = (here, step)
                 row.append(number)
-    return papers
-
-
-def steps_of_way(book, way):
-    """Return the lists of the right and of the left steps that are taken in a way, none being []."""
-    right = right_steps(book)
-    left = left_steps(book)
-    if way == "behind":
-        left = [[] for _ in left]
-    if way == "ahead":
-        right = [[] for _ in right]
-    return right, left
+    return back
 
 
 def coming_paper(book, way, a, m):
     """Return a coming paper, or None if m does not come of a in this way."""
-    return coming_papers(book, way, a).get(grown(book)[2][m])
+    walk = walked(book)
+    start, here = walk.numbers[a], walk.numbers[m]
+    back = step_back(onward_in_way(walk, way), start, here)
+    if here not in back:
+        return None
+    # The first steps that are taken to the left are those by the first letters behind all others.
+    ahead, behind = [], []
+    while here != start:
+        here, step = back[here]
+        if way == "ahead":
+            ahead.append(step)
+        elif step < len(book[1]):
+            behind.append(step)
+        else:
+            ahead.append(step - len(book[1]))
+    return (tuple(ahead), tuple(behind[::-1]))
 
 
 def barring_paper(book, way, a, m):
     """Return all members that come of a in this way, in the heap's order, or None if m does."""
-    members, _, numbers = grown(book)
-    papers = coming_papers(book, way, a)
-    if numbers[m] in papers:
+    walk = walked(book)
+    found = numbers_from(onward_in_way(walk, way), walk.numbers[a])
+    if walk.numbers[m] in found:
         return None
-    return tuple([members[number] for number in sorted(papers)])
+    return tuple([walk.members[number] for number in sorted(found)])
 
 
 def judge_coming(book, way, a, m, value):
@@ -63,18 +92,18 @@ def judge_coming(book, way, a, m, value):
 
 def judge_barring(book, way, a, m, value):
     """Return None if value, which may be anything, is a barring paper, or its first fault."""
-    numbers = grown(book)[2]
-    if not is_member_tuple(book[0], numbers, value):
+    walk = walked(book)
+    if not is_member_tuple(book[0], walk.numbers, value):
         return ("form",)
-    told = [numbers[member] for member in value]
+    told = [walk.numbers[member] for member in value]
     for k in range(1, len(told)):
         if told[k] <= told[k - 1]:
             return ("order", k)
-    if numbers[a] not in told:
+    if walk.numbers[a] not in told:
         return ("start",)
-    if numbers[m] in told:
+    if walk.numbers[m] in told:
         return ("holds",)
-    return step_fault(book, way, told)
+    return step_fault(onward_in_way(walk, way), len(book[1]), told)
 
 
 def is_member_tuple(n, numbers, value):
@@ -84,24 +113,22 @@ def is_member_tuple(n, numbers, value):
     return all([is_deed(n, member) and member in numbers for member in value])
 
 
-def step_fault(book, way, told):
+def step_fault(onward, g, told):
     """Return the fault of the first member and letter that lead out of the numbers that are told, or None."""
-    right, left = steps_of_way(book, way)
     among = {number: True for number in told}
     for k, number in enumerate(told):
-        for letter in range(len(book[1])):
-            steps = right[number][letter:letter + 1] + left[number][letter:letter + 1]
-            if not all([step in among for step in steps]):
-                return ("step", k, letter)
+        # Steps behind and ahead by one letter stand g apart.
+        letters = [step % g for step, led in enumerate(onward[number]) if led not in among]
+        if len(letters) > 0:
+            return ("step", k, min(letters))
     return None
 
 
 def kinds(book, way):
     """Return the list of the kinds, tuples of members in the heap's order, by their first members."""
-    members = grown(book)[0]
-    right, left = steps_of_way(book, way)
-    found = mutual([behind + ahead for behind, ahead in zip(right, left)])
-    return [tuple([members[number] for number in numbers]) for numbers in found]
+    walk = walked(book)
+    found = mutual(onward_in_way(walk, way))
+    return [tuple([walk.members[number] for number in numbers]) for numbers in found]
 
 
 def mutual(onward):
@@ -144,18 +171,3 @@ def mutual_marks(onward):
                 while marks[here] is None:
                     marks[waiting.pop()] = here
     return marks
-
-
-def numbers_from(onward, start):
-    """Return the dict that has all numbers to which steps lead from one."""
-    seen = {start: True}
-    row = [start]
-    at = 0
-    while at < len(row):
-        steps = onward[row[at]]
-        at += 1
-        for number in steps:
-            if number not in seen:
-                seen[number] = True
-                row.append(number)
-    return seen

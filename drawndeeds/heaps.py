@@ -62,23 +62,40 @@ def walked(book, most=None):
     return Walk(members, numbers, (right, left), (aheads, lasts))
 
 
-def least_words_of(walk):
-    """Return the list of the least words of a walk's members."""
-    words = [()]
-    for k in range(1, len(walk.members)):
-        words.append(words[walk.aheads[k]] + (walk.lasts[k],))
-    return words
+def word_to(walk, number):
+    """Return the least word of the member with a number."""
+    letters = []
+    while number > 0:
+        letters.append(walk.lasts[number])
+        number = walk.aheads[number]
+    return tuple(letters[::-1])
 
 
 def grown(book, most=None):
-    """Return the members, their least words, and the dict of their numbers; raises TooMany() as walked."""
-    walk = walked(book, most)
-    return walk.members, least_words_of(walk), walk.numbers
+    """Return the members, their least words, and the dict of their numbers; raises TooMany() as walked.
+
+    Where no steps are asked for this is done with less than a walk.
+    """
+    n, deeds = book
+    members, words, numbers = [idle(n)], [()], {idle(n): 0}
+    at = 0
+    while at < len(members):
+        member = members[at]
+        for letter, deed in enumerate(deeds):
+            made = tuple([deed[p] for p in member])
+            if made not in numbers:
+                numbers[made] = len(members)
+                members.append(made)
+                words.append(words[at] + (letter,))
+        if most is not None and len(members) > most:
+            raise TooMany()
+        at += 1
+    return members, words, numbers
 
 
 def heap(book):
     """Return the heap; raises TooMany() if it has more than 2,000 members."""
-    return tuple(walked(book, MOST_MEMBERS).members)
+    return tuple(grown(book, MOST_MEMBERS)[0])
 
 
 def least_words(book):
@@ -96,7 +113,7 @@ def number_among(numbers, n, deed):
 
 def number_of(book, deed):
     """Return the number of a member; raises NoMember(deed) if deed is none."""
-    return number_among(walked(book).numbers, book[0], deed)
+    return number_among(grown(book)[2], book[0], deed)
 
 
 def least_word(book, deed):

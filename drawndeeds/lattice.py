@@ -1,7 +1,7 @@
 """The faces of a book together: their signed numbers, sums over them, floors and mark rows."""
 
 from drawndeeds.faces import all_faces, face_with, reaches_of, reaches_with_faces
-from drawndeeds.heaps import least_words_of, walked
+from drawndeeds.heaps import grown, right_steps
 from drawndeeds.letterlots import lot_of
 from drawndeeds.words import is_below
 
@@ -57,9 +57,9 @@ def faces_of_words(book, words):
 
 def floors(book):
     """Return the list of the floors, tuples of members in the heap's order, in the faces' order."""
-    walk = walked(book)
+    members, words, _ = grown(book)
     found = {f: [] for f in all_faces(book)}
-    for member, f in zip(walk.members, faces_of_words(book, least_words_of(walk))):
+    for member, f in zip(members, faces_of_words(book, words)):
         found[f].append(member)
     return [tuple(members) for members in list(found.values())]
 
@@ -67,12 +67,12 @@ def floors(book):
 def mark_row(book, f):
     """Return the mark row of a face; raises NoFace(f)."""
     reaches_with_faces(book, (f,))
-    return tuple([int(is_within(word, f)) for word in least_words_of(walked(book))])
+    return tuple([int(is_within(word, f)) for word in grown(book)[1]])
 
 
 def judge_marks(book, value):
     """Return None if value, which may be anything, is a mark row, or its first fault."""
-    right = walked(book).right
+    right = right_steps(book)
     if not isinstance(value, tuple) or len(value) != len(right) or not all([is_below(mark, 2) for mark in value]):
         return ("form",)
     if value[0] != 1:

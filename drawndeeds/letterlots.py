@@ -1,7 +1,7 @@
 """Lots of words, and how many places words hold where that hangs on their lots alone."""
 
 from drawndeeds.books import done, held
-from drawndeeds.heaps import least_words_of, walked
+from drawndeeds.heaps import walked, word_to
 from drawndeeds.lots import all_lots
 
 MOST_MEMBERS = 400
@@ -63,5 +63,5 @@ def first_unlike(walk, numbers):
 
 def words_behind(walk, number, pair):
     """Return the pair of words that a pair makes behind the least word of a member."""
-    word = least_words_of(walk)[number]
+    word = word_to(walk, number)
     return (word + pair[0], word + pair[1])

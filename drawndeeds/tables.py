@@ -1,6 +1,6 @@
 """Tables: how much leads from each place to each one, their products, powers and traces."""
 
-from drawndeeds.heaps import walked
+from drawndeeds.heaps import grown
 
 
 def led_table(n, deeds, weights):
@@ -19,7 +19,7 @@ def table_of(book, weights):
 
 def member_table(book, weights):
     """Return the table of a book at member weights."""
-    return led_table(book[0], walked(book).members, weights)
+    return led_table(book[0], grown(book)[0], weights)
 
 
 def idle_table(n):

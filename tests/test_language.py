@@ -178,7 +178,7 @@ class Form(unittest.TestCase):
             self.assertIsInstance(node, STATEMENTS, place)
         for place, node in self.each((ast.FunctionDef, ast.ClassDef)):
             self.assertEqual(node.decorator_list, [], place)
-        for place, node in self.each((ast.Lambda, ast.GeneratorExp, ast.Starred, ast.Yield, ast.YieldFrom, ast.JoinedStr,
+        for place, node in self.each((ast.Lambda, ast.GeneratorExp, ast.Starred, ast.Yield, ast.YieldFrom,
                                       ast.NamedExpr, ast.SetComp, ast.Set)):
             self.fail(f"{place}: {node}")
 
