@@ -5,20 +5,21 @@ for, so no function comes behind it, and its place is the one where a text ends 
 """
 
 from drawndeeds.errors import BadText
+from drawndeeds.lexemes import place_of
 from drawndeeds.sheets import SORTS
 
 
 def behind_lexeme(rows, at, lexeme):
     """Return the place behind this very lexeme; raises BadText(place) if another one stands there."""
     if rows[at][1] != lexeme:
-        raise BadText(rows[at][2])
+        raise BadText(place_of(rows, at))
     return at + 1
 
 
 def behind_kind(rows, at, kind):
     """Return the place behind a lexeme of a kind; raises BadText(place) if another one stands there."""
     if rows[at][0] != kind:
-        raise BadText(rows[at][2])
+        raise BadText(place_of(rows, at))
     return at + 1
 
 
@@ -48,25 +49,20 @@ def behind_items(rows, at):
     """Return the place behind ITEM*."""
     depth = 0
     while True:
-        if rows[at][1] == "(":
+        kind, lexeme, _ = rows[at]
+        if kind == "name" or (lexeme == ")" and depth > 0):
+            if lexeme == ")":
+                depth -= 1
+            at += 1
+            if rows[at][1] == "^":
+                at = behind_kind(rows, at + 1, "numeral")
+        elif lexeme == "(":
             depth += 1
             at += 1
-        elif rows[at][0] == "name":
-            at = behind_times(rows, at + 1)
-        elif rows[at][1] == ")" and depth > 0:
-            depth -= 1
-            at = behind_times(rows, at + 1)
         elif depth > 0:
-            raise BadText(rows[at][2])
+            raise BadText(place_of(rows, at))
         else:
             return at
-
-
-def behind_times(rows, at):
-    """Return the place behind [^ N]."""
-    if rows[at][1] == "^":
-        return behind_kind(rows, at + 1, "numeral")
-    return at
 
 
 def behind_rows(rows, at):

@@ -36,10 +36,7 @@ def read_word(names, text):
 
 def letters_by_name(names):
     """Return the dict of the letters by their names."""
-    letters = {}
-    for letter, name in enumerate(names):
-        letters.setdefault(name, letter)
-    return letters
+    return {name: letter for letter, name in enumerate(names)}
 
 
 def check_names(letters, body):
@@ -103,36 +100,41 @@ def told_fractions(body):
 
 def told_word(letters, body):
     """Return the word that items tell; raises TooMany() if it has more than 10,000 letters."""
-    # A list for each bracket that is open; None stands for too much, which may still be done 0 times.
-    levels = [[]]
+    rows = body + [("end", "", 0)]
+    # What is told within brackets that are open, and outside of them; None stands for too much.
+    told, outside = [], []
     at = 0
     while at < len(body):
-        lexeme = body[at][1]
+        lexeme = rows[at][1]
         at += 1
         if lexeme == "(":
-            levels.append([])
+            outside.append(told)
+            told = []
             continue
-        item = levels.pop() if lexeme == ")" else [letters[lexeme]]
-        if at < len(body) and body[at][1] == "^":
-            item = repeated(item, int(body[at + 1][1]))
+        times = 1
+        if rows[at][1] == "^":
+            times = int(rows[at + 1][1])
             at += 2
-        if levels[-1] is None or item is None or len(levels[-1]) + len(item) > MOST_LETTERS:
-            levels[-1] = None
+        if lexeme == ")":
+            told = with_item(outside.pop(), told, times)
+        elif times == 1 and told is not None and len(told) < MOST_LETTERS:
+            told.append(letters[lexeme])
         else:
-            levels[-1].extend(item)
-    if levels[0] is None:
+            told = with_item(told, [letters[lexeme]], times)
+    if told is None:
         raise TooMany()
-    return tuple(levels[0])
+    return tuple(told)
 
 
-def repeated(item, times):
-    """Return the letters of an item so many times, or None if these are too many."""
-    if times == 0:
-        return []
-    if item is None or len(item) * times > MOST_LETTERS:
+def with_item(told, item, times):
+    """Put the letters of an item, so many times, behind what is told, and return that; None if these are too many."""
+    # Too much may be done 0 times, and nothing more often than any list may be long.
+    if times == 0 or item == []:
+        return told
+    if told is None or item is None or len(told) + len(item) * times > MOST_LETTERS:
         return None
-    # Nothing stays nothing, also where times is greater than any list may be long.
-    return item * times if item else []
+    told.extend(item * times)
+    return told
 
 
 def sheet_text(sheet):

@@ -15,7 +15,7 @@ def is_number(value):
 
 def is_below(value, bound):
     """Tell whether value, which may be anything, is a number below bound."""
-    return is_number(value) and value < bound
+    return isinstance(value, int) and not isinstance(value, bool) and 0 <= value < bound
 
 
 def is_integer_tuple(value):
@@ -23,21 +23,12 @@ def is_integer_tuple(value):
     return isinstance(value, tuple) and all([is_integer(member) for member in value])
 
 
-def is_small_letter(sign):
-    """Tell whether a character is one from a to z."""
-    return "a" <= sign <= "z"
-
-
-def is_figure(sign):
-    """Tell whether a character is one from 0 to 9."""
-    return "0" <= sign <= "9"
-
-
 def is_name(value):
     """Tell whether value, which may be anything, is a name."""
     if not isinstance(value, str) or not 1 <= len(value) <= LONGEST_NAME:
         return False
-    return is_small_letter(value[0]) and all([is_small_letter(sign) or is_figure(sign) for sign in value])
+    # Of such characters as these only a to z and 0 to 9 are left, and of A to Z none.
+    return value.isascii() and value.isalnum() and value.islower() and not value[0].isdigit()
 
 
 def is_ahead(word, other):

@@ -46,7 +46,7 @@ BUILTINS = (
 METHODS = (
     "append clear copy count endswith extend find get index insert isalnum isalpha isdigit islower isspace isupper "
     "items join keys ljust lower lstrip partition pop remove replace reverse rfind rjust rpartition rsplit rstrip "
-    "setdefault split splitlines startswith strip update upper values zfill bit_length").split()
+    "setdefault split splitlines startswith strip update upper values zfill bit_length isascii").split()
 LIBRARY = {
     "heapq": ("heappush", "heappop", "heapify"), "math": ("gcd", "lcm", "isqrt", "comb"),
     "itertools": ("combinations", "permutations"), "collections": ("deque",)}
