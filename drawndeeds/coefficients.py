@@ -1,7 +1,7 @@
 """Coefficients of tables, the traces that go with them, and how often an integer is among their roots."""
 
 from drawndeeds.tables import idle_table, multiplied, trace_of
-from drawndeeds.triangles import rest_of, take_in
+from drawndeeds.triangles import rest_in_span, take_in
 
 
 def coefficients_of(table):
@@ -82,7 +82,7 @@ def least_for_line(table, line):
     while any(made[:n]):
         take_in(rows, made)
         power, k = led_on(power, table), k + 1
-        made = rest_of(rows, power + [int(j == k) for j in range(n + 1)])
+        made = rest_in_span(rows, power + [int(j == k) for j in range(n + 1)])
     return [number // made[n + k] for number in made[n:n + k + 1]]
 
 

@@ -7,19 +7,19 @@ def word_counts(book, t):
     """Return the tuple that tells for each member how many words of t letters do it."""
     right = walked(book).right
     counts, before = {0: 1}, {}
-    while t > 0 and 4 * len(counts) < 3 * len(right) and not are_same_numbers(counts, before):
+    while t > 0 and 4 * len(counts) < 3 * len(right) and not are_among(counts, before):
         counts, before = spread(right, counts), counts
         t -= 1
     if t > 0:
-        # Members that have words of two lengths, one behind the other, are those that have some of each further one.
-        numbers = list(counts) if are_same_numbers(counts, before) else list(range(len(right)))
+        # Where no member has come in with the last letter, none comes in with any further one.
+        numbers = list(counts) if are_among(counts, before) else list(range(len(right)))
         counts = gathered(right, numbers, counts, t)
     return tuple([counts.get(number, 0) for number in range(len(right))])
 
 
-def are_same_numbers(counts, before):
-    """Tell whether two dicts have the same numbers."""
-    return len(counts) == len(before) and all([number in before for number in counts])
+def are_among(counts, before):
+    """Tell whether all numbers of a dict are among those of another one."""
+    return len(counts) <= len(before) and all([number in before for number in counts])
 
 
 def spread(right, counts):

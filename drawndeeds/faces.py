@@ -75,8 +75,10 @@ def is_lot_of_face(reaches, lot):
 
 def face_with(reaches, lot):
     """Return the lot of the least face of the letters of a lot."""
-    while not is_lot_of_face(reaches, lot):
-        lot = lot_of(lot + letters_around(reaches, lot))
+    more = lot_of(lot + letters_around(reaches, lot))
+    while more != lot:
+        lot = more
+        more = lot_of(lot + letters_around(reaches, lot))
     return lot
 
 

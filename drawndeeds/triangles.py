@@ -27,7 +27,7 @@ def cleared(line, row, place):
     return reduced([a * times - b * less for a, b in zip(line, row)])
 
 
-def rest_of(rows, line):
+def rest_in_span(rows, line):
     """Return a multiple of a line, less multiples of a span's rows: noughts exactly if the span has the line."""
     for place, row in rows.items():
         if line[place] != 0:
@@ -37,12 +37,12 @@ def rest_of(rows, line):
 
 def has_line(rows, line):
     """Tell whether a line is a sum of multiples of a span's rows."""
-    return not any(rest_of(rows, line))
+    return not any(rest_in_span(rows, line))
 
 
 def take_in(rows, line):
     """Put a line into a span; tell whether the span has not had it."""
-    rest = rest_of(rows, line)
+    rest = rest_in_span(rows, line)
     for place, number in enumerate(rest):
         if number != 0:
             rows[place] = reduced(rest)
@@ -57,7 +57,7 @@ def lines_beside(rows, n):
     """
     full = {}
     for place in reversed(list(rows)):
-        full[place] = rest_of(full, rows[place])
+        full[place] = rest_in_span(full, rows[place])
     found = []
     for free in range(n):
         if free not in full:
@@ -126,7 +126,8 @@ def triangle(book):
     found = []
     for rows in spans[1:]:
         for line in lines_beside(rows, n):
-            for marks, part in parted(deeds, ahead, line):
+            parts = parted(deeds, ahead, line)
+            for marks, part in parts:
                 if take_in(ahead, part):
                     found.append((marks, tuple(part)))
     return tuple(found)

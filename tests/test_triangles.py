@@ -4,10 +4,11 @@ import random
 import unittest
 from fractions import Fraction
 from itertools import permutations
+from math import gcd
 
 from drawndeeds.lots import side_by_side
 from drawndeeds.speeds import times
-from drawndeeds.triangles import judge_triangle, triangle, triangle_times
+from drawndeeds.triangles import has_line, judge_triangle, lines_beside, take_in, triangle, triangle_times
 from tests.bookssupport import (
     EXCHANGE, FALLS, FEW, NONE, OF_SUMS, ONE, SOME, TWINS, W, put_in, seventeen, sums_of_400, sums_of_500,
     turns_of_401, unlike_in_lots)
@@ -116,6 +117,26 @@ class Triangles(Case):
                 self.short(found)
                 self.assertIsNone(judge_triangle((n, tuple(deeds)), found))
         self.assertGreater(many, 50)
+
+
+class Lines(Case):
+    def test_spans(self):
+        chance = random.Random(13)
+        for _ in range(300):
+            n = chance.randrange(1, 7)
+            lines = [[chance.randrange(-9, 10) for _ in range(n)] for _ in range(chance.randrange(0, 6))]
+            rows = {}
+            for k, line in enumerate(lines):
+                known = in_span(lines[:k], line) or not any(line)
+                self.assertIs(has_line(rows, line), known)
+                self.assertIs(take_in(rows, line), not known)
+                self.assertTrue(has_line(rows, line))
+            beside = lines_beside(rows, n)
+            self.assertEqual(len(beside) + len(rows), n)
+            self.assertTrue(all(sum(a * b for a, b in zip(line, row)) == 0 for line in lines for row in beside))
+            self.assertFalse(any(in_span(beside[:k], line) for k, line in enumerate(beside)))
+            for line in beside + list(rows.values()):
+                self.assertEqual(gcd(*line), 1)
 
 
 def times_are_none(book):
