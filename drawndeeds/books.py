@@ -109,6 +109,13 @@ def done(book, word):
     return deed
 
 
+def led_to(book, word, p):
+    """Return the place to which a word leads a place."""
+    for letter in word:
+        p = book[1][letter][p]
+    return p
+
+
 def held(deed):
     """Return the ascending tuple of the places that a deed leads to themselves."""
     return tuple([p for p in range(len(deed)) if deed[p] == p])

@@ -1,9 +1,10 @@
 """Faces: sets of members that have a product exactly if they have what it is made of, told by their letters."""
 
-from drawndeeds.books import ascending_fault, done, idle, is_settled, is_word_pair, rank, reach
+from drawndeeds.books import ascending_fault, done, is_settled, is_word_pair, rank
 from drawndeeds.comings import coming_paper, mutual, numbers_from
 from drawndeeds.errors import NoFace
 from drawndeeds.heaps import grown, least_word
+from drawndeeds.leading import walked_lots
 from drawndeeds.letterlots import lot_of
 from drawndeeds.lots import all_lots, cut
 
@@ -23,20 +24,8 @@ class Reaches:
 
 def reaches_of(book):
     """Return the reaches of a book's words."""
-    n, deeds = book
-    row = [idle(n)]
-    numbers = {row[0]: 0}
-    onward = []
-    while len(onward) < len(row):
-        places = row[len(onward)]
-        steps = []
-        for deed in deeds:
-            led = reach([deed[p] for p in places])
-            steps.append(numbers.setdefault(led, len(row)))
-            if steps[-1] == len(row):
-                row.append(led)
-        onward.append(steps)
-    return Reaches([len(places) for places in row], onward, inner_letters(onward))
+    lots, onward = walked_lots(book)
+    return Reaches([len(places) for places in lots], onward, inner_letters(onward))
 
 
 def inner_letters(onward):

@@ -62,21 +62,29 @@ def meeting_pairs(book):
 def least_word_and_reach(book):
     """Return a word of the least rank and the reach of what it does."""
     letters = meeting_letters(book)
+    return word_and_reach_by(book, letters, list(letters))
+
+
+def word_and_reach_by(book, letters, row):
+    """Return a word of the least rank and the reach of what it does.
+
+    As long as one of the pairs of a row, all that meet, lies in the reach, the word for the first one is put behind.
+    """
     word = ()
     deed = idle(book[0])
-    pair = first_within(letters, deed)
+    pair = first_within(row, deed)
     while pair is not None:
         more = word_from(book, letters, pair)
         word = word + more
         deed = product(deed, done(book, more))
-        pair = first_within(letters, deed)
+        pair = first_within(row, deed)
     return word, reach(deed)
 
 
-def first_within(letters, deed):
-    """Return the first of the pairs with letters that lies in a deed's reach, or None."""
+def first_within(row, deed):
+    """Return the first pair of a row that lies in a deed's reach, or None."""
     among = {place: True for place in deed}
-    for p, q in letters:
+    for p, q in row:
         if p in among and q in among:
             return (p, q)
     return None

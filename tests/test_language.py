@@ -38,6 +38,13 @@ INTERFACE = {
     "lumps": "is_kept_parting kept_with kept_partings joined common lumped",
     "ends": "comes_to way_into ends end_paper judge_end_paper",
     "resting": "does_rest end_share end_shares trees_into tree_sum",
+    "coming": "comings means mean_back",
+    "rounds": "round_of round_lots round_paper judge_round_paper",
+    "meeting": "lead_pair first_meeting never_met judge_meeting judge_still",
+    "leading": "led_lots first_to_one led_word judge_least",
+    "sure": "sure_parting is_sure sure_paper unsure_paper judge_sure judge_unsure",
+    "past": "led unled told mean_to_one mean_together",
+    "needs": "need_chances need_of_whole mean_need",
 }
 
 BUILTINS = (
