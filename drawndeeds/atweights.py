@@ -23,8 +23,13 @@ def speeds_at(book, weights):
     found = triangle(book)
     if found is None:
         return None
+    return speeds_by(triangle_times(found), weights)
+
+
+def speeds_by(told, weights):
+    """Return the ascending tuple of the pairs (z, number) that times tell at weights, numbers of one z being added."""
     numbers = {}
-    for lot, number in triangle_times(found):
+    for lot, number in told:
         z = speed_of(lot, weights)
         numbers[z] = numbers.get(z, 0) + number
     return tuple([(z, numbers[z]) for z in sorted(numbers)])

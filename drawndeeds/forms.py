@@ -8,6 +8,28 @@ from drawndeeds.errors import BadText
 from drawndeeds.lexemes import place_of
 from drawndeeds.sheets import SORTS
 
+# What stands between the word with which a line of a console begins and the sign that ends it.
+LINE_KINDS = {
+    "turn": ("name", "numeral", "numeral"),
+    "drop": ("name",),
+    "undo": (),
+    "redo": (),
+    "mark": ("name",),
+    "since": ("name",),
+    "size": (),
+    "held": ("name",),
+    "fading": (),
+    "turned": (),
+    "faces": (),
+    "ends": (),
+    "times": (),
+    "share": ("name",),
+    "speeds": ("name",),
+    "meet": ("numeral", "numeral"),
+    "letters": (),
+    "parts": (),
+}
+
 
 def behind_lexeme(rows, at, lexeme):
     """Return the place behind this very lexeme; raises BadText(place) if another one stands there."""
@@ -110,19 +132,24 @@ BEHIND_BODIES = {
 }
 
 
-def read_rows(rows, at, words):
-    """Return the list of what stands from a place on and begins with one of the words, and the place behind.
+def read_row(rows, at):
+    """Return what stands from a place on and begins with a word of BEHIND_BODIES, and the place behind.
 
-    Each one is a triple: the word with which it begins, its name, and the list of the lexemes behind that.
+    It is a triple: the word with which it begins, its name, and the list of the lexemes behind that.
     """
+    word = rows[at][1]
+    start = behind_kind(rows, at + 1, "name")
+    behind_body = BEHIND_BODIES[word]
+    end = behind_body(rows, start)
+    return (word, rows[start - 1][1], rows[start:end]), behind_lexeme(rows, end, ";")
+
+
+def read_rows(rows, at, words):
+    """Return the list of what stands from a place on and begins with one of the words, and the place behind."""
     found = []
     while rows[at][1] in words:
-        word = rows[at][1]
-        start = behind_kind(rows, at + 1, "name")
-        behind_body = BEHIND_BODIES[word]
-        end = behind_body(rows, start)
-        at = behind_lexeme(rows, end, ";")
-        found.append((word, rows[start - 1][1], rows[start:end]))
+        row, at = read_row(rows, at)
+        found.append(row)
     return found, at
 
 
@@ -149,3 +176,22 @@ def word_form(rows):
     at = behind_items(rows, 0)
     check_end(rows, at)
     return rows[:at]
+
+
+def line_form(rows):
+    """Return the word with which a line of a console begins, and the lexemes between that and its end.
+
+    The line is none that has a SHEET. Raises BadText(place) with the first wrong place.
+    """
+    word = rows[0][1]
+    if word in BEHIND_BODIES:
+        _, at = read_row(rows, 0)
+    elif word in LINE_KINDS:
+        at = 1
+        for kind in LINE_KINDS[word]:
+            at = behind_kind(rows, at, kind)
+        at = behind_lexeme(rows, at, ";")
+    else:
+        raise BadText(place_of(rows, 0))
+    check_end(rows, at)
+    return word, rows[1:at - 1]

@@ -13,17 +13,24 @@ def read_sheet(text):
 
     Raises BadText(place), UnknownName(name), TooMany() or BadTree(path), in this sequence.
     """
-    numeral, deeds, parts = sheet_form(scanned(text))
+    sheet = told_sheet(scanned(text))
+    check_sheet(sheet)
+    return sheet
+
+
+def told_sheet(rows):
+    """Return what a SHEET tells, by the rows of its lexemes, which may be no sheet.
+
+    Raises BadText(place), UnknownName(name) or TooMany(), in this sequence.
+    """
+    numeral, deeds, parts = sheet_form(rows)
     names = tuple([name for _, name, _ in deeds])
     letters = letters_by_name(names)
     for sort, _, body in parts:
-        if sort in ("word", "lot"):
-            check_names(letters, body)
+        check_body(letters, sort, body)
     told_deeds = tuple([told_numbers(body) for _, _, body in deeds])
     told_parts = tuple([(sort, name, told_value(letters, sort, body)) for sort, name, body in parts])
-    sheet = ((int(numeral), told_deeds), names, told_parts)
-    check_sheet(sheet)
-    return sheet
+    return ((int(numeral), told_deeds), names, told_parts)
 
 
 def read_word(names, text):
@@ -44,6 +51,12 @@ def check_names(letters, body):
     for kind, lexeme, _ in body:
         if kind == "name" and lexeme not in letters:
             raise UnknownName(lexeme)
+
+
+def check_body(letters, sort, body):
+    """Raise UnknownName(name) with the first name among the lexemes of a part of a sort that means no letter."""
+    if sort in ("word", "lot"):
+        check_names(letters, body)
 
 
 def told_value(letters, sort, body):

@@ -101,10 +101,10 @@ def less_line(line, other):
     return [a - b for a, b in zip(line, other)]
 
 
-def narrower(deeds, rows):
-    """Return the span of all that words move the differences of a span's rows to."""
+def narrower(deeds, rows, find):
+    """Return the span of all that words move what is found for a span's rows to."""
     found = {}
-    waiting = [line for row in list(rows.values()) for line in differences(deeds, row)]
+    waiting = [line for row in list(rows.values()) for line in find(deeds, row)]
     while len(waiting) > 0:
         line = waiting.pop()
         if any(line) and take_in(found, line):
@@ -112,14 +112,26 @@ def narrower(deeds, rows):
     return found
 
 
-def triangle(book):
-    """Return a triangle of a book, or None if it has none."""
+def spans_by(book, find):
+    """Return the spans from that of all rows to that of none, each one narrower than the one ahead.
+
+    find(deeds, row) tells what the next span has of a row. None stands for spans that do not come to an end.
+    """
     n, deeds = book
     spans = [{p: [int(p == q) for q in range(n)] for p in range(n)}]
     while len(spans[-1]) > 0:
-        spans.append(narrower(deeds, spans[-1]))
+        spans.append(narrower(deeds, spans[-1], find))
         if len(spans[-1]) == len(spans[-2]):
             return None
+    return spans
+
+
+def triangle(book):
+    """Return a triangle of a book, or None if it has none."""
+    n, deeds = book
+    spans = spans_by(book, differences)
+    if spans is None:
+        return None
     # A span's differences lie in the next one. So on lines that the next one brings to 0, but for those that the
     # span does, words with one lot do the same; and such lines can be parted into kept and quenched ones.
     ahead = {}

@@ -45,6 +45,19 @@ INTERFACE = {
     "sure": "sure_parting is_sure sure_paper unsure_paper judge_sure judge_unsure",
     "past": "led unled told mean_to_one mean_together",
     "needs": "need_chances need_of_whole mean_need",
+    "fading": "is_fading fading_paper judge_fading_paper face_product clumps",
+    "chains": "chains chain_chances chain_shares",
+    "nears": "whole_chances distance",
+    "rearranged": "tally_of rearranged_words judge_rearranged",
+    "stairs": "stairs judge_stairs",
+    "turnedtimes": "rings turned_times judge_turned turned_homecomings",
+    "desk": "Desk",
+    "console": "Console",
+}
+IN_CLASSES = {
+    "Desk": "sheet act_word do undo redo acts size times faces is_fading is_turned held ends share speeds meeting work "
+            "mark since marks twin",
+    "Console": "answer",
 }
 
 BUILTINS = (
@@ -134,6 +147,18 @@ class Form(unittest.TestCase):
                        if isinstance(node, (ast.FunctionDef, ast.ClassDef))]
             self.assertEqual(set(told.split()) - set(defined), set(), name)
 
+    def test_methods_are_defined_in_their_classes(self):
+        found = {node.name: node for tree in self.trees.values() for node in tree.body if isinstance(node, ast.ClassDef)}
+        for name, told in IN_CLASSES.items():
+            defined = [node.name for node in found[name].body if isinstance(node, ast.FunctionDef)]
+            self.assertEqual(set(told.split()) - set(defined), set(), name)
+            self.assertEqual(len(defined), len(set(defined)), name)
+        for node in found.values():
+            methods = [part.name for part in node.body if isinstance(part, ast.FunctionDef)]
+            stored = [part.attr for part in ast.walk(node) if isinstance(part, ast.Attribute)
+                      and isinstance(part.ctx, ast.Store)]
+            self.assertEqual(set(methods) & set(stored), set(), node.name)
+
     def test_module_level(self):
         for name, tree in self.trees.items():
             self.assertIsNotNone(ast.get_docstring(tree), name)
@@ -222,6 +247,8 @@ class Form(unittest.TestCase):
             self.assertNotRegex(text, r"\btype\b", name)
 
     def test_calls(self):
+        own = [part.name for tree in self.trees.values() for node in tree.body if isinstance(node, ast.ClassDef)
+               for part in node.body if isinstance(part, ast.FunctionDef)]
         for name, tree in self.trees.items():
             known = [node.name for node in tree.body if isinstance(node, (ast.FunctionDef, ast.ClassDef))]
             known += [part.name for node in imports(tree) for part in node.names]
@@ -231,7 +258,7 @@ class Form(unittest.TestCase):
                     if not isinstance(node, ast.Call):
                         continue
                     if isinstance(node.func, ast.Attribute):
-                        self.assertIn(node.func.attr, METHODS, f"{name}:{node.lineno}")
+                        self.assertIn(node.func.attr, METHODS + own, f"{name}:{node.lineno}")
                         self.assertEqual(node.keywords, [], f"{name}:{node.lineno}")
                     else:
                         self.assertIn(node.func.id, known + BUILTINS + local, f"{name}:{node.lineno}")
@@ -300,6 +327,8 @@ class Form(unittest.TestCase):
             tables = [node.targets[0].id for node in tree.body if isinstance(node, ast.Assign)
                       and isinstance(node.value, (ast.List, ast.Dict))]
             indexed = [node.value for node in ast.walk(tree) if isinstance(node, ast.Subscript)]
+            indexed += [side for node in ast.walk(tree) if isinstance(node, ast.Compare)
+                        and isinstance(node.ops[0], ast.In) for side in node.comparators]
             for node in ast.walk(tree):
                 if isinstance(node, ast.Name) and node.id in tables and isinstance(node.ctx, ast.Load):
                     self.assertIn(node, indexed, f"{name}:{node.lineno}")

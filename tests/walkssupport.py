@@ -1,10 +1,12 @@
 """Books of the document's parts 8 to 10 that are walked on, and slow ways to what walks on them do."""
 
 from fractions import Fraction
+from itertools import permutations
 from itertools import product as words_of
 
 from drawndeeds.heaps import heap
-from tests.bookssupport import EXCHANGE, FALLS, ONE, Q, SOME, W, put_in, then
+from drawndeeds.lots import side_by_side
+from tests.bookssupport import FALLS, Q, SOME, W, put_in, then
 from tests.support import all_books
 
 L = (4, ((0, 2, 3, 3), (0, 0, 1, 3)))
@@ -117,5 +119,23 @@ def letters_words(g, longest):
     return [word for t in range(longest + 1) for word in words_of(range(g), repeat=t)]
 
 
-FADING = [Q, W, put_in(3), ONE]
-NOT_FADING = [EXCHANGE, R, SLOPE]
+def front_first(items):
+    """Rows of some items as places; each letter puts one item ahead of all others."""
+    rows = list(permutations(range(items)))
+    deeds = [tuple(rows.index((k,) + tuple(x for x in row if x != k)) for row in rows) for k in range(items)]
+    return (len(rows), tuple(deeds))
+
+
+def constants(n):
+    """A book in which each letter leads all to a place of its own."""
+    return (n, tuple((k,) * n for k in range(n)))
+
+
+def fades_slowly(book):
+    """Whether x b x is b x for each member b and letter's deed x."""
+    return all(then(then(x, b), x) == then(b, x) for b in heap(book) for x in book[1])
+
+
+FADING = [book for book in SOME + all_books(3, 2)[::7] if fades_slowly(book)]
+FADING += [front_first(3), constants(5), put_in(5), side_by_side(Q, constants(3)), side_by_side(W, put_in(2)), (3, ())]
+TO_ONE = [book for book in FADING if book[1] and any(len(set(member)) == 1 for member in heap(book))]

@@ -1,0 +1,81 @@
+"""Stairs: steps of lines on which letters can be exchanged, but for what the steps ahead of them tell."""
+
+from drawndeeds.triangles import has_line, led_line, less_line, lines_beside, moved, spans_by, take_in
+from drawndeeds.words import is_integer_tuple
+
+
+def exchanges(deeds, row):
+    """Return how a row is moved unlike by two letters in the one sequence and in the other one."""
+    once = [moved(row, deed) for deed in deeds]
+    return [less_line(moved(once[a], deeds[b]), moved(once[b], deeds[a])) for a in range(len(deeds)) for b in range(a)]
+
+
+def stairs(book):
+    """Return stairs of a book, or None if it has none."""
+    spans = spans_by(book, exchanges)
+    if spans is None:
+        return None
+    # Lines that a span brings to 0 are kept, and exchanged letters differ on them by what the span ahead brings to 0.
+    ahead = {}
+    steps = []
+    for rows in spans[1:]:
+        steps.append(tuple([tuple(line) for line in lines_beside(rows, book[0]) if take_in(ahead, line)]))
+    return tuple(steps)
+
+
+def judge_stairs(book, value):
+    """Return None if value, which may be anything, is stairs of the book, or its first fault."""
+    if not is_stairs_form(book[0], value):
+        return ("form",)
+    ahead = {}
+    for k, line in enumerate([line for step in value for line in step]):
+        if not take_in(ahead, line):
+            return ("line", k)
+    for find_fault in (kept_fault, turned_fault):
+        ahead = {}
+        k = 0
+        for step in value:
+            fault = find_fault(book[1], ahead, step)
+            if fault is not None:
+                return (fault[0], k + fault[1]) + fault[2:]
+            k += len(step)
+            for line in step:
+                take_in(ahead, line)
+    return None
+
+
+def is_stairs_form(n, value):
+    """Tell whether value, which may be anything, is a tuple of steps that have n lines of n integers together."""
+    if not isinstance(value, tuple):
+        return False
+    many = 0
+    for step in value:
+        if not isinstance(step, tuple) or len(step) == 0:
+            return False
+        if not all([is_integer_tuple(line) and len(line) == n for line in step]):
+            return False
+        many += len(step)
+    return many == n
+
+
+def kept_fault(deeds, ahead, step):
+    """Return the fault of the first line of a step that a letter leads out of it and the span ahead, or None."""
+    rows = dict(ahead)
+    for line in step:
+        take_in(rows, line)
+    for k, line in enumerate(step):
+        for a, deed in enumerate(deeds):
+            if not has_line(rows, led_line(line, deed)):
+                return ("kept", k, a)
+    return None
+
+
+def turned_fault(deeds, ahead, step):
+    """Return the fault of the first line of a step on which two letters cannot be exchanged, or None."""
+    for k, line in enumerate(step):
+        once = [led_line(line, deed) for deed in deeds]
+        for a, deed in enumerate(deeds):
+            for b in range(a + 1, len(deeds)):
+                if not has_line(ahead, less_line(led_line(once[a], deeds[b]), led_line(once[b], deed))):
+                    return ("turned", k, a, b)
+    return None
