@@ -11,7 +11,8 @@ from drawndeeds.letterlots import MOST_MEMBERS, held_number, held_numbers
 from drawndeeds.meeting import first_meeting
 from drawndeeds.rearranged import first_rearranged
 from drawndeeds.resting import end_share
-from drawndeeds.sheets import part_fault, sheet_fault
+from drawndeeds.sheets import (
+    part_fault, part_names, place_among, placed_at, sheet_fault, with_right_part, without_part)
 from drawndeeds.speeds import times_of
 from drawndeeds.words import is_below, is_name
 
@@ -70,16 +71,6 @@ def drop_word(sheet, act):
     return "name" if act[1] not in part_names(sheet) else None
 
 
-def part_names(sheet):
-    """Return the list of the names of a sheet's parts."""
-    return [name for _, name, _ in sheet[2]]
-
-
-def placed_at(row, at, member):
-    """Return a tuple with a member in the place of the one with a number, or behind all others."""
-    return row[:at] + (member,) + row[at + 1:]
-
-
 def with_sheet(sheet, act):
     """Return the sheet behind an act of sheet."""
     return act[1]
@@ -88,29 +79,25 @@ def with_sheet(sheet, act):
 def with_deed(sheet, act):
     """Return the sheet behind an act of deed."""
     (n, deeds), names, parts = sheet
-    at = names.index(act[1]) if act[1] in names else len(names)
+    at = place_among(names, act[1])
     return ((n, placed_at(deeds, at, act[2])), placed_at(names, at, act[1]), parts)
 
 
 def with_turn(sheet, act):
     """Return the sheet behind an act of turn."""
     (n, deeds), names, parts = sheet
-    at = names.index(act[1])
+    at = place_among(names, act[1])
     return ((n, placed_at(deeds, at, placed_at(deeds[at], act[2], act[3]))), names, parts)
 
 
 def with_put(sheet, act):
     """Return the sheet behind an act of put."""
-    book, names, parts = sheet
-    taken = part_names(sheet)
-    at = taken.index(act[1][1]) if act[1][1] in taken else len(taken)
-    return (book, names, placed_at(parts, at, act[1]))
+    return with_right_part(sheet, act[1])
 
 
 def with_drop(sheet, act):
     """Return the sheet behind an act of drop."""
-    at = part_names(sheet).index(act[1])
-    return (sheet[0], sheet[1], sheet[2][:at] + sheet[2][at + 1:])
+    return without_part(sheet, act[1])
 
 
 ACT_SIZES = {"sheet": 2, "deed": 3, "turn": 4, "put": 2, "drop": 2}

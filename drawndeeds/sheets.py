@@ -196,15 +196,31 @@ def parts_of(sheet, sort):
 
 def with_part(sheet, part):
     """Return the sheet with a part, which may be anything; raises BadTree(path) with the path in it."""
-    book, names, parts = sheet
-    path = part_fault(book, {}, part)
+    path = part_fault(sheet[0], {}, part)
     if path is not None:
         raise BadTree(path)
-    taken = [other[1] for other in parts]
-    if part[1] not in taken:
-        return (book, names, parts + (part,))
-    at = taken.index(part[1])
-    return (book, names, parts[:at] + (part,) + parts[at + 1:])
+    return with_right_part(sheet, part)
+
+
+def with_right_part(sheet, part):
+    """Return the sheet with a part in the place of that of its name, or behind all others."""
+    book, names, parts = sheet
+    return (book, names, placed_at(parts, place_among(part_names(sheet), part[1]), part))
+
+
+def part_names(sheet):
+    """Return the list of the names of a sheet's parts."""
+    return [name for _, name, _ in sheet[2]]
+
+
+def place_among(names, name):
+    """Return the number of a name among others, or how many they are if it is none of them."""
+    return names.index(name) if name in names else len(names)
+
+
+def placed_at(row, at, member):
+    """Return a tuple with a member in the place of the one with a number, or behind all others."""
+    return row[:at] + (member,) + row[at + 1:]
 
 
 def without_part(sheet, name):

@@ -27,9 +27,10 @@ def judge_stairs(book, value):
     """Return None if value, which may be anything, is stairs of the book, or its first fault."""
     if not is_stairs_form(book[0], value):
         return ("form",)
+    lines = [line for step in value for line in step]
     ahead = {}
-    for k, line in enumerate([line for step in value for line in step]):
-        if not take_in(ahead, line):
+    for k in range(len(lines)):
+        if not take_in(ahead, lines[k]):
             return ("line", k)
     for find_fault in (kept_fault, turned_fault):
         ahead = {}

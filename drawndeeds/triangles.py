@@ -101,10 +101,10 @@ def less_line(line, other):
     return [a - b for a, b in zip(line, other)]
 
 
-def narrower(deeds, rows, find):
+def narrower(deeds, rows, find_lines):
     """Return the span of all that words move what is found for a span's rows to."""
     found = {}
-    waiting = [line for row in list(rows.values()) for line in find(deeds, row)]
+    waiting = [line for row in list(rows.values()) for line in find_lines(deeds, row)]
     while len(waiting) > 0:
         line = waiting.pop()
         if any(line) and take_in(found, line):
@@ -112,15 +112,15 @@ def narrower(deeds, rows, find):
     return found
 
 
-def spans_by(book, find):
+def spans_by(book, find_lines):
     """Return the spans from that of all rows to that of none, each one narrower than the one ahead.
 
-    find(deeds, row) tells what the next span has of a row. None stands for spans that do not come to an end.
+    find_lines(deeds, row) tells what the next span has of a row. None stands for spans that do not come to an end.
     """
     n, deeds = book
     spans = [{p: [int(p == q) for q in range(n)] for p in range(n)}]
     while len(spans[-1]) > 0:
-        spans.append(narrower(deeds, spans[-1], find))
+        spans.append(narrower(deeds, spans[-1], find_lines))
         if len(spans[-1]) == len(spans[-2]):
             return None
     return spans
