@@ -5,8 +5,8 @@ from math import lcm
 from drawndeeds.chains import fades_to_one
 from drawndeeds.ends import ends
 from drawndeeds.homecomings import raised
-from drawndeeds.past import led, spread
 from drawndeeds.keptlots import steps_of
+from drawndeeds.past import led, spread
 from drawndeeds.resting import end_share, least_fraction
 
 

@@ -19,7 +19,11 @@ def stairs(book):
     ahead = {}
     steps = []
     for rows in spans[1:]:
-        steps.append(tuple([tuple(line) for line in lines_beside(rows, book[0]) if take_in(ahead, line)]))
+        step = []
+        for line in lines_beside(rows, book[0]):
+            if take_in(ahead, line):
+                step.append(tuple(line))
+        steps.append(tuple(step))
     return tuple(steps)
 
 

@@ -29,7 +29,8 @@ FORMS = {
     "FRACTIONS": ["", "FRACTION FRACTIONS"],
     "FRACTION": ["INTEGER", "INTEGER / N"],
     "WORD": ["ITEMS"],
-    "LINE": ["SHEET", "DEED", "PART", "turn NAME N N ;", "drop NAME ;", "undo ;", "redo ;", "mark NAME ;", "since NAME ;",
+    "LINE": ["SHEET", "DEED", "PART", "turn NAME N N ;", "drop NAME ;", "undo ;", "redo ;", "mark NAME ;",
+    "since NAME ;",
              "size ;", "held NAME ;", "fading ;", "turned ;", "faces ;", "ends ;", "times ;", "share NAME ;",
              "speeds NAME ;", "meet N N ;", "letters ;", "parts ;"],
 }

@@ -46,7 +46,8 @@ class Lines(Case):
         self.refuses(desk, console, "undo ; redo ;", "no 7")
         self.refuses(desk, console, "undo", "no 4")
         self.refuses(desk, console, "meet 0 ;", "no 7")
-        self.says(console, "sheet { places 2; deed a 0 0; deed b 1 1; deed c 0 1; weights v 2 3 5; word w a ^ 2; }", "done")
+        self.says(console, "sheet { places 2; deed a 0 0; deed b 1 1; deed c 0 1; weights v 2 3 5; word w a ^ 2; }",
+            "done")
         self.says(console, "word x d;", "no letter")
         self.says(console, "times;", "a b c = 1, c = 1")
         self.says(console, "share v;", "2/5 3/5")
@@ -72,7 +73,8 @@ class Lines(Case):
         desk, console = console_with()
         for line, act in (
                 ("deed s 0 0;", ("deed", "s", (0, 0))), ("deed new 1 1;", ("deed", "new", (1, 1))),
-                ("turn s 1 1;", ("turn", "s", 1, 1)), ("word w s^2 (z s)^2;", ("put", ("word", "w", (0, 0, 1, 0, 1, 0)))),
+                ("turn s 1 1;", ("turn", "s", 1, 1)),
+                ("word w s^2 (z s)^2;", ("put", ("word", "w", (0, 0, 1, 0, 1, 0)))),
                 ("word none;", ("put", ("word", "none", ()))), ("lead l 1 0;", ("put", ("lead", "l", (1, 0)))),
                 ("lot lot s new;", ("put", ("lot", "lot", (0, 2)))), ("lot o;", ("put", ("lot", "o", ()))),
                 ("field f 0 1;", ("put", ("field", "f", (0, 1)))), ("field f;", ("put", ("field", "f", ()))),
@@ -80,7 +82,8 @@ class Lines(Case):
                 ("weights v 3 - 2 -0;", ("put", ("weights", "v", (3, -2, 0)))),
                 ("chances c 1/3 1/2 1/6;", ("put", ("chances", "c", ((1, 3), (1, 2), (1, 6))))),
                 ("drop none;", ("drop", "none")),
-                (" sheet\n{places 1 ; deed a 0 ; lot l a ; }\n", ("sheet", ((1, ((0,),)), ("a",), (("lot", "l", (0,)),))))):
+                (" sheet\n{places 1 ; deed a 0 ; lot l a ; }\n",
+                ("sheet", ((1, ((0,),)), ("a",), (("lot", "l", (0,)),))))):
             many = len(desk.acts())
             self.says(console, line, "done")
             self.plain(act, desk.acts()[-1])
@@ -97,14 +100,16 @@ class Lines(Case):
                 ("sheet { places 0; deed t 5; word w t^10001; }", "no great"),
                 ("sheet { places 0; deed t 5; word w t^10001; lot l u; }", "no letter"),
                 ("sheet { places 0; deed t 5; word w t^10001; lot l u; ", "no 53"),
-                ("deed s 1;", "no deed"), ("deed s 1 2;", "no deed"), ("deed s 07;", "no deed"), ("deed t 1 0;", "no fit"),
+                ("deed s 1;", "no deed"), ("deed s 1 2;", "no deed"), ("deed s 07;", "no deed"),
+                ("deed t 1 0;", "no fit"),
                 ("deed t 1 2;", "no deed"), ("deed t " + "9" * 40 + " 0;", "no deed"),
                 ("turn t 0 0;", "no name"), ("turn w 0 0;", "no name"), ("turn t 9 9;", "no name"),
                 ("turn s 2 0;", "no place"), ("turn s 0 " + "9" * 40 + ";", "no place"), ("drop s;", "no name"),
                 ("word x t;", "no letter"), ("word x s^9999 (z z);", "no great"), ("word x s^20000 t;", "no letter"),
                 ("word x (t)^0;", "no letter"), ("lot l z s;", "no part"), ("lot l s s;", "no part"),
                 ("lot l s t;", "no letter"), ("lot l z s t;", "no letter"), ("lead l 0;", "no part"),
-                ("field f 1 0;", "no part"), ("field f 2;", "no part"), ("parting p;", "no part"), ("parting p 1, 0;", "no part"),
+                ("field f 1 0;", "no part"), ("field f 2;", "no part"), ("parting p;", "no part"),
+                ("parting p 1, 0;", "no part"),
                 ("weights x 1;", "no part"), ("chances c 1/2 2/4;", "no part"), ("chances c 1/2;", "no part"),
                 ("chances c 1/0 1;", "no part"), ("undo ; ", "done"), ("redo;", "done")):
             if answer == "done":
@@ -160,17 +165,21 @@ class Lines(Case):
         for line, answer in (("size;", "1"), ("fading;", "yes"), ("turned;", "yes"), ("faces;", "-"), ("ends;", "0"),
                              ("times;", "- = 1"), ("letters;", ""), ("parts;", ""), ("meet 0 0;", "no place"),
                              ("meet 0 1;", "no place"), ("held w;", "no name"), ("share v;", "no name"),
-                             ("speeds v;", "no name"), ("undo;", "no nothing"), ("redo;", "no nothing"), ("since a;", "no mark")):
+                             ("speeds v;", "no name"), ("undo;", "no nothing"), ("redo;", "no nothing"),
+                             ("since a;", "no mark")):
             self.says(console, line, answer)
 
     def test_answers(self):
-        parts = (("weights", "v", (2, 3, 5)), ("word", "w", (0, 2)), ("word", "none", ()), ("weights", "less", (0, -4, 1)),
+        parts = (("weights", "v", (2, 3, 5)), ("word", "w", (0, 2)), ("word", "none", ()),
+            ("weights", "less", (0, -4, 1)),
                  ("lot", "l", ()))
         desk, console = console_with(*parts, book=Q)
         for line, answer in (
                 ("size;", "3"), ("held w;", "1"), ("held none;", "2"), ("held v;", "no sort"), ("held q;", "no name"),
-                ("fading;", "yes"), ("turned;", "yes"), ("faces;", "a, s z a"), ("ends;", "0 1"), ("times;", "a = 1, s z a = 1"),
-                ("share v;", "2/5 3/5"), ("share less;", "no weights"), ("share w;", "no sort"), ("share q;", "no name"),
+                ("fading;", "yes"), ("turned;", "yes"), ("faces;", "a, s z a"), ("ends;", "0 1"),
+                ("times;", "a = 1, s z a = 1"),
+                ("share v;", "2/5 3/5"), ("share less;", "no weights"), ("share w;", "no sort"),
+                ("share q;", "no name"),
                 ("speeds v;", "5 = 1, 10 = 1"), ("speeds less;", "-3 = 1, 1 = 1"), ("speeds l;", "no sort"),
                 ("speeds q;", "no name"), ("meet 0 1;", "s"), ("meet 1 0;", "s"), ("meet 1 1;", "no place"),
                 ("meet 0 2;", "no place"), ("letters;", "s z a"), ("parts;", "v w none less l")):
@@ -209,9 +218,11 @@ class Lines(Case):
 
     def test_too_many(self):
         desk, console = console_with(("weights", "v", (1, 1)), ("word", "w", (0,)), book=heap_of_5040())
-        for line, answer in (("size;", "no great"), ("times;", "no great"), ("faces;", "no great"), ("fading;", "no great"),
+        for line, answer in (("size;", "no great"), ("times;", "no great"), ("faces;", "no great"),
+                ("fading;", "no great"),
                              ("turned;", "no great"), ("speeds v;", "no great"), ("speeds q;", "no name"),
-                             ("speeds w;", "no sort"), ("held w;", "0"), ("ends;", "0 1 2 3 4 5 6"), ("meet 0 1;", "never"),
+                             ("speeds w;", "no sort"), ("held w;", "0"), ("ends;", "0 1 2 3 4 5 6"),
+                             ("meet 0 1;", "never"),
                              ("share v;", "1/7 1/7 1/7 1/7 1/7 1/7 1/7"), ("share w;", "no sort")):
             self.says(console, line, answer)
         self.plain(0, desk.work())
@@ -237,7 +248,8 @@ class Places(Case):
         desk, console = console_with()
         for line, place in (("", 0), (" ", 1), ("\n \n", 3), ("size", 4), ("size  ", 6), ("word", 4), ("word w s", 8),
                             ("word w (s;", 9), ("turn s 0", 8), ("turn s 0 0", 10), ("meet 0 1\n", 9), ("sheet {", 7),
-                            ("sheet { places 1; ", 18), ("chances c 1/", 12), ("weights v -", 11), ("parting p 0,", 12)):
+                            ("sheet { places 1; ", 18), ("chances c 1/", 12), ("weights v -", 11),
+                            ("parting p 0,", 12)):
             before = state(desk)
             self.gives("no " + str(place), console.answer, line)
             self.assertEqual(state(desk), before)
@@ -245,13 +257,17 @@ class Places(Case):
     def test_wrong_lexemes(self):
         desk, console = console_with()
         for line, place in (
-                ("sizes ;", 0), (" size size;", 6), ("size ; ;", 7), ("size 1;", 5), ("7;", 0), (";", 0), ("turn 0 0 0;", 5),
+                ("sizes ;", 0), (" size size;", 6), ("size ; ;", 7), ("size 1;", 5), ("7;", 0), (";", 0),
+                ("turn 0 0 0;", 5),
                 ("turn s s 0;", 7), ("turn s 0 s;", 9), ("turn s 0 0 0;", 11), ("meet s 1;", 5), ("meet 0 1 2;", 9),
                 ("held;", 4), ("held 1;", 5), ("held w w;", 7), ("mark m n;", 7), ("drop;", 4), ("undo 1;", 5),
-                ("deed s 0 0; deed z 0 0;", 12), ("word w; word u;", 8), ("size; abcdefghijklm", 6), ("abcdefghijklm", 0),
+                ("deed s 0 0; deed z 0 0;", 12), ("word w; word u;", 8), ("size; abcdefghijklm", 6),
+                ("abcdefghijklm", 0),
                 ("Size;", 0), ("size\t;", 4), ("size;\t", 5), ("size,", 4), ("?", 0), ("  ?", 2), ("meet 0 -1;", 7),
-                ("weights v 1/2;", 11), ("chances c 1//2;", 12), ("word w s ^ ^;", 11), ("word w );", 7), ("lot l 0;", 6),
-                ("sheet;", 5), ("sheet { places; }", 14), ("sheet { places 1; size; }", 18), ("sheet { places 1; } ;", 20),
+                ("weights v 1/2;", 11), ("chances c 1//2;", 12), ("word w s ^ ^;", 11), ("word w );", 7),
+                ("lot l 0;", 6),
+                ("sheet;", 5), ("sheet { places; }", 14), ("sheet { places 1; size; }", 18),
+                ("sheet { places 1; } ;", 20),
                 ("parting p ,;", 10), ("meet 0 " + "9" * 5000 + " 3;", 5008), ("size " + "9" * 5000 + ";", 5)):
             before = state(desk)
             self.gives("no " + str(place), console.answer, line)
@@ -261,11 +277,13 @@ class Places(Case):
     def test_by_the_forms(self):
         dice = random.Random(181)
         desk, console = console_with(("word", "w", (0,)), ("weights", "v", (1, 2)))
-        row = WORDS + ["places", "s", "z", "w", "v", "0", "1", "12", ";", ";", ";", "{", "}", ",", "/", "-", "^", "(", ")", "?"]
+        row = WORDS + ["places", "s", "z", "w", "v", "0", "1", "12", ";", ";", ";", "{", "}", ",", "/", "-", "^", "(",
+            ")", "?"]
         for _ in range(4000):
             lexemes = [dice.choice(WORDS)] + [dice.choice(row) for _ in range(dice.randrange(6))]
             self.same(console, wheel_text(lexemes))
-            self.same(console, wheel_text([dice.choice(WORDS[:20])] + [dice.choice(("s", "w", "0", "1", ";")) for _ in range(3)]))
+            rest = [dice.choice(("s", "w", "0", "1", ";")) for _ in range(3)]
+            self.same(console, wheel_text([dice.choice(WORDS[:20])] + rest))
         for text in short_texts("s;1 ^z?", 4):
             self.same(console, text)
 
@@ -281,7 +299,8 @@ class Places(Case):
                 lexemes = [lexeme for lexeme, _ in slow_lexemes(line)[0]]
                 for _ in range(3):
                     at = dice.randrange(len(lexemes))
-                    new = dice.choice(([], [dice.choice(lexemes)], [lexemes[at]] * 2, [dice.choice([";", "0", "x", "^", "-"])]))
+                    new = dice.choice(([], [dice.choice(lexemes)], [lexemes[at]] * 2,
+                        [dice.choice([";", "0", "x", "^", "-"])]))
                     self.same(console, wheel_text(lexemes[:at] + new + lexemes[at + 1:]))
                 self.same(console, line[:dice.randrange(len(line))])
 
@@ -311,13 +330,10 @@ class Together(Case):
             for _ in range(20):
                 act = some_act(dice, sheet)
                 word, more = slow_act(sheet, act)
-                if word in ("form", "sheet") or (word == "part" and not isinstance(act[1], tuple)) or word == "name" and \
-                        act[0] == "deed":
+                if word in ("form", "sheet", "part") or (word == "name" and act[0] == "deed"):
                     continue
                 if act[0] == "sheet":
                     line = sheet_text(act[1])
-                elif act[0] == "put" and word == "part":
-                    continue
                 elif act[0] == "put":
                     line = part_text(sheet, act[1])
                 elif act[0] == "deed":
@@ -341,15 +357,18 @@ class Together(Case):
                     sheet = desk.sheet()
             console = Console(desk)
             n = sheet[0][0]
-            for line, call in (("size;", desk.size), ("faces;", desk.faces), ("times;", desk.times), ("ends;", desk.ends),
+            for line, call in (("size;", desk.size), ("faces;", desk.faces), ("times;", desk.times),
+                    ("ends;", desk.ends),
                                ("fading;", desk.is_fading), ("turned;", desk.is_turned)):
                 self.assertEqual(console.answer(line), self.written(sheet[1], line, asked(call)))
             for name in [part[1] for part in sheet[2]] + ["nothing"]:
                 for word, call in (("held", desk.held), ("share", desk.share), ("speeds", desk.speeds)):
-                    self.assertEqual(console.answer(word + " " + name + ";"), self.written(sheet[1], word, asked(call, name)))
+                    self.assertEqual(console.answer(word + " " + name + ";"),
+                        self.written(sheet[1], word, asked(call, name)))
             for p in range(n + 1):
                 for q in range(n + 1):
-                    self.assertEqual(console.answer(f"meet {p} {q};"), self.written(sheet[1], "meet", asked(desk.meeting, p, q)))
+                    self.assertEqual(console.answer(f"meet {p} {q};"),
+                        self.written(sheet[1], "meet", asked(desk.meeting, p, q)))
             self.assertEqual(console.answer("letters;"), " ".join(sheet[1]))
             self.assertEqual(console.answer("parts;"), " ".join(part[1] for part in sheet[2]))
 
@@ -381,7 +400,8 @@ class Together(Case):
     def test_words_of_lines_are_read_as_by_themselves(self):
         """What a word of a part tells or refuses is what read_word does with the names of the desk."""
         desk, console = console_with()
-        for text in ("", "s", "s^3 z", "(s z)^2", "t", "(t)^0", "s^10000", "s^10001", "(s^101)^100", "()^7", "((z))^0 s"):
+        for text in ("", "s", "s^3 z", "(s z)^2", "t", "(t)^0", "s^10000", "s^10001", "(s^101)^100", "()^7",
+                "((z))^0 s"):
             found = asked(read_word, ("s", "z"), text)
             answer = console.answer("word w " + text + ";")
             if found == ("TooMany", {}):

@@ -104,7 +104,8 @@ class Acts(Case):
         self.plain(6, desk.do(("put", ("field", "s", (0, 1)))))
         self.plain(7, desk.do(("put", ("lot", "w", (0, 2)))))
         self.plain((("lot", "w", (0, 2)), ("field", "s", (0, 1))), desk.sheet()[2])
-        self.plain([("sheet", B_SHEET), ("deed", "s", (1, 1)), ("turn", "z", 1, 1), ("drop", "v"), ("deed", "w", (0, 0)),
+        self.plain([("sheet", B_SHEET), ("deed", "s", (1, 1)), ("turn", "z", 1, 1), ("drop", "v"),
+            ("deed", "w", (0, 0)),
                     ("put", ("field", "s", (0, 1))), ("put", ("lot", "w", (0, 2)))], desk.acts())
         check_sheet(desk.sheet())
         self.new_lists(desk.acts(), desk.acts())
@@ -117,8 +118,10 @@ class Acts(Case):
 
     def test_words_of_acts(self):
         desk = desk_with(("sheet", B_SHEET))
-        for act in ((), ("sheet",), ("sheet", B_SHEET, 1), ("deed", "s"), ("turn", "s", 0), ("put",), ("drop",), ("undo",),
-                    ["sheet", B_SHEET], ("Sheet", B_SHEET), (1, 2), (["sheet"], B_SHEET), (None, None), ("",), ("drop", 1, 2),
+        for act in ((), ("sheet",), ("sheet", B_SHEET, 1), ("deed", "s"), ("turn", "s", 0), ("put",), ("drop",),
+                ("undo",),
+                    ["sheet", B_SHEET], ("Sheet", B_SHEET), (1, 2), (["sheet"], B_SHEET), (None, None), ("",),
+                    ("drop", 1, 2),
                     ("turn", "s", 0, 0, 0), ("put", "word", "x", ()), ({}, 1), (("sheet",), 1)):
             self.refuses(desk, "form", act)
         self.refuses(desk, "sheet", ("sheet", B_SHEET[:2]))
@@ -259,7 +262,8 @@ class Questions(Case):
             self.refused(BadAsk, {"word": "name"}, desk.share, value)
 
     def test_speeds(self):
-        desk = desk_of(W, ("weights", "v", (2, 3)), ("weights", "same", (0, 5)), ("weights", "less", (-7, 4)), ("lot", "l", ()))
+        desk = desk_of(W, ("weights", "v", (2, 3)), ("weights", "same", (0, 5)), ("weights", "less", (-7, 4)),
+            ("lot", "l", ()))
         self.gives([(2, 1), (3, 1), (5, 1)], desk.speeds, "v")
         self.gives([(0, 1), (5, 2)], desk.speeds, "same")
         self.gives([(-7, 1), (-3, 1), (4, 1)], desk.speeds, "less")
@@ -407,7 +411,8 @@ class Past(Case):
     def test_work(self):
         desk = desk_with(("sheet", B_SHEET))
         self.gives(0, desk.work)
-        for call in (desk.ends, lambda: desk.held("w"), lambda: desk.share("v"), lambda: desk.meeting(0, 1), desk.sheet):
+        for call in (desk.ends, lambda: desk.held("w"), lambda: desk.share("v"), lambda: desk.meeting(0, 1),
+                desk.sheet):
             call()
         self.gives(0, desk.work)
         for call in (desk.size, desk.times, desk.faces, desk.is_fading, desk.is_turned):

@@ -26,7 +26,8 @@ def product_of_all(table, speeds):
     n = len(table)
     made = tuple(tuple(int(p == q) for q in range(n)) for p in range(n))
     for speed in speeds:
-        made = multiplied(made, tuple(tuple(x - speed * (p == q) for q, x in enumerate(row)) for p, row in enumerate(table)))
+        less = [[x - speed * (p == q) for q, x in enumerate(row)] for p, row in enumerate(table)]
+        made = multiplied(made, tuple(tuple(row) for row in less))
     return made
 
 

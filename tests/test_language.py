@@ -148,7 +148,8 @@ class Form(unittest.TestCase):
             self.assertEqual(set(told.split()) - set(defined), set(), name)
 
     def test_methods_are_defined_in_their_classes(self):
-        found = {node.name: node for tree in self.trees.values() for node in tree.body if isinstance(node, ast.ClassDef)}
+        nodes = [node for tree in self.trees.values() for node in tree.body]
+        found = {node.name: node for node in nodes if isinstance(node, ast.ClassDef)}
         for name, told in IN_CLASSES.items():
             defined = [node.name for node in found[name].body if isinstance(node, ast.FunctionDef)]
             self.assertEqual(set(told.split()) - set(defined), set(), name)

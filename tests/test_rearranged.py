@@ -8,7 +8,7 @@ from drawndeeds.heaps import least_words
 from drawndeeds.rearranged import judge_rearranged, rearranged_words, tally_of
 from drawndeeds.speeds import times
 from tests.bookssupport import EXCHANGE, NONE, ONE, OF_SUMS, W, sums_of_400, sums_of_500, then, turns_of_401
-from tests.support import ANYTHING, Case, all_books, heap_of_400, heap_of_5040
+from tests.support import ANYTHING, Case, heap_of_400, heap_of_5040
 from tests.turnssupport import BOOKS, T, held_in, tallies_clash
 
 

@@ -69,7 +69,8 @@ class Stairs(Case):
                 self.gives(None, judge_stairs, book, found)
                 self.assertIsNone(slow_fault(book, found))
                 self.assertIs(found.__class__, tuple)
-                self.assertTrue(all(step.__class__ is tuple and line.__class__ is tuple for step in found for line in step))
+                self.assertTrue(all(step.__class__ is tuple for step in found))
+                self.assertTrue(all(line.__class__ is tuple for step in found for line in step))
 
     def test_no_value_is_stairs_where_there_are_two_words(self):
         chance = random.Random(161)
@@ -148,7 +149,8 @@ class Stairs(Case):
 
     def test_many_places_and_short_lines(self):
         dice = random.Random(163)
-        for m, r, g in ((2, 4, 6), (4, 2, 6), (8, 1, 6), (8, 2, 6), (4, 4, 6), (5, 3, 6), (3, 5, 4), (2, 8, 4), (17, 1, 6)) * 3:
+        for m, r, g in ((2, 4, 6), (4, 2, 6), (8, 1, 6), (8, 2, 6), (4, 4, 6), (5, 3, 6), (3, 5, 4), (2, 8, 4),
+                (17, 1, 6)) * 3:
             book = with_places_moved(dice, turned_falls(dice, m, r, g)[0])
             found = stairs(book)
             self.gives(None, judge_stairs, book, found)

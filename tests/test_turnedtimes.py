@@ -13,7 +13,7 @@ from drawndeeds.speeds import times
 from drawndeeds.stairs import stairs
 from drawndeeds.turnedtimes import judge_turned, rings, turned_homecomings, turned_times
 from tests.bookssupport import (
-    EXCHANGE, NONE, ONE, Q, W, determinant, less_from, sums_of_400, sums_of_500, turns_of_401, word_table)
+    EXCHANGE, NONE, ONE, Q, W, determinant, less_from, sums_of_500, turns_of_401, word_table)
 from tests.support import ANYTHING, Case, heap_of_400, heap_of_5040
 from tests.turnssupport import (
     BOOKS, FOUR_RINGS, RINGS, T, held_in, rings_of_500, slow_rings, turned_falls, turned_of_400, value_at,
@@ -80,7 +80,8 @@ class TurnedTimes(Case):
         """Held of words is the sum of the values at them."""
         circles = rings(book)
         g = len(book[1])
-        for word in least_words(book)[::7] + [(k,) * 3 for k in range(g)] + [tuple(range(g)) * 2, tuple(range(g))[::-1]]:
+        for word in least_words(book)[::7] + [(k,) * 3 for k in range(g)] + [tuple(range(g)) * 2,
+                tuple(range(g))[::-1]]:
             value = sum(number * value_at(circles, lot, turns, word) for lot, turns, number in found)
             self.assertLess(abs(value - held_in(book, word)), 1e-6)
 
@@ -164,7 +165,8 @@ class TurnedTimes(Case):
                 self.assertEqual(turned_homecomings(book, found, worths, t), homecomings(book, worths, t))
 
     def test_side_by_side(self):
-        for book, other in ((EXCHANGE, (3, ((1, 2, 0),))), (RINGS, (8, ((0,) * 8, (0,) * 8))), (W, (2, ((1, 0), (1, 0))))):
+        for book, other in ((EXCHANGE, (3, ((1, 2, 0),))), (RINGS, (8, ((0,) * 8, (0,) * 8))),
+                (W, (2, ((1, 0), (1, 0))))):
             both = side_by_side(book, other)
             found = turned_times(both)
             circles = rings(both)

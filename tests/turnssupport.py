@@ -11,7 +11,8 @@ from tests.support import all_books, apart_books, deed_of
 T = (3, ((1, 0, 2), (0, 2, 1)))
 RINGS = (8, ((1, 2, 3, 4, 5, 6, 7, 0), (2, 3, 4, 5, 6, 7, 0, 1)))
 # Rings of five and of three places, and letters that put the places of a ring together.
-FOUR_RINGS = (8, ((1, 2, 3, 4, 0, 5, 6, 7), (0, 1, 2, 3, 4, 6, 7, 5), (0, 0, 0, 0, 0, 5, 6, 7), (0, 1, 2, 3, 4, 5, 5, 5)))
+FOUR_RINGS = (8, ((1, 2, 3, 4, 0, 5, 6, 7), (0, 1, 2, 3, 4, 6, 7, 5), (0, 0, 0, 0, 0, 5, 6, 7),
+    (0, 1, 2, 3, 4, 5, 5, 5)))
 
 
 def rings_of_500():
