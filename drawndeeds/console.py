@@ -3,8 +3,8 @@
 from drawndeeds.errors import BadAct, BadAsk, BadText, NothingDone, TooMany, UnknownName
 from drawndeeds.forms import line_form
 from drawndeeds.lexemes import scanned
-from drawndeeds.sheettexts import (
-    check_body, fraction_text, letters_by_name, number_texts, told_numbers, told_sheet, told_value)
+from drawndeeds.sheettexts import check_body, fraction_text, letters_by_name, number_texts
+from drawndeeds.sheettexts import told_numbers, told_sheet, told_value
 
 
 def undo_answer(desk, told):

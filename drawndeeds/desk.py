@@ -11,8 +11,8 @@ from drawndeeds.letterlots import MOST_MEMBERS, held_number, held_numbers
 from drawndeeds.meeting import first_meeting
 from drawndeeds.rearranged import first_rearranged
 from drawndeeds.resting import end_share
-from drawndeeds.sheets import (
-    part_fault, part_names, place_among, placed_at, sheet_fault, with_right_part, without_part)
+from drawndeeds.sheets import part_fault, part_names, place_among, placed_at, sheet_fault, with_right_part
+from drawndeeds.sheets import without_part
 from drawndeeds.speeds import times_of
 from drawndeeds.words import is_below, is_name
 

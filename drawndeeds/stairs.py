@@ -32,21 +32,33 @@ def judge_stairs(book, value):
     if not is_stairs_form(book[0], value):
         return ("form",)
     lines = [line for step in value for line in step]
-    ahead = {}
+    rows = {}
     for k in range(len(lines)):
-        if not take_in(ahead, lines[k]):
+        if not take_in(rows, lines[k]):
             return ("line", k)
-    for find_fault in (kept_fault, turned_fault):
-        ahead = {}
-        k = 0
-        for step in value:
-            fault = find_fault(book[1], ahead, step)
-            if fault is not None:
-                return (fault[0], k + fault[1]) + fault[2:]
-            k += len(step)
-            for line in step:
-                take_in(ahead, line)
+    # Each line has brought one row, so what the lines up to one tell is told by as many rows.
+    spans = spans_ahead(rows, [len(step) for step in value])
+    for k, line in enumerate(lines):
+        for a, deed in enumerate(book[1]):
+            if not has_line(spans[k][1], led_line(line, deed)):
+                return ("kept", k, a)
+    for k, line in enumerate(lines):
+        pair = first_turned(book[1], spans[k][0], line)
+        if pair is not None:
+            return ("turned", k) + pair
     return None
+
+
+def spans_ahead(rows, sizes):
+    """Return for each line the span of the steps ahead, and that with its own step, by rows and the steps' sizes."""
+    places = list(rows)
+    spans = []
+    start = 0
+    for size in sizes:
+        ahead = {place: rows[place] for place in places[:start]}
+        start += size
+        spans += [(ahead, {place: rows[place] for place in places[:start]})] * size
+    return spans
 
 
 def is_stairs_form(n, value):
@@ -63,24 +75,11 @@ def is_stairs_form(n, value):
     return many == n
 
 
-def kept_fault(deeds, ahead, step):
-    """Return the fault of the first line of a step that a letter leads out of it and the span ahead, or None."""
-    rows = dict(ahead)
-    for line in step:
-        take_in(rows, line)
-    for k, line in enumerate(step):
-        for a, deed in enumerate(deeds):
-            if not has_line(rows, led_line(line, deed)):
-                return ("kept", k, a)
-    return None
-
-
-def turned_fault(deeds, ahead, step):
-    """Return the fault of the first line of a step on which two letters cannot be exchanged, or None."""
-    for k, line in enumerate(step):
-        once = [led_line(line, deed) for deed in deeds]
-        for a, deed in enumerate(deeds):
-            for b in range(a + 1, len(deeds)):
-                if not has_line(ahead, less_line(led_line(once[a], deeds[b]), led_line(once[b], deed))):
-                    return ("turned", k, a, b)
+def first_turned(deeds, ahead, line):
+    """Return the first two letters that cannot be exchanged on a line, but for what a span tells, or None."""
+    once = [led_line(line, deed) for deed in deeds]
+    for a, deed in enumerate(deeds):
+        for b in range(a + 1, len(deeds)):
+            if not has_line(ahead, less_line(led_line(once[a], deeds[b]), led_line(once[b], deed))):
+                return (a, b)
     return None

@@ -37,7 +37,8 @@ def rest_in_span(rows, line):
 
 def has_line(rows, line):
     """Tell whether a line is a sum of multiples of a span's rows."""
-    return not any(rest_in_span(rows, line))
+    # As many rows as a line has numbers tell all lines.
+    return len(rows) == len(line) or not any(rest_in_span(rows, line))
 
 
 def take_in(rows, line):

@@ -121,6 +121,17 @@ class Stairs(Case):
         self.gives(None, judge_stairs, W, (((1, 1, 1),), ((0, 0, 1), (0, 1, 0))))
         self.gives(None, judge_stairs, W, (((10 ** 299, 10 ** 299, 10 ** 299),), ((0, 0, -(10 ** 299)),), ((0, 7, 0),)))
 
+    def test_great_integers(self):
+        dice = random.Random(164)
+        lines = tuple(tuple(dice.randrange(-10 ** 299, 10 ** 299) for _ in range(17)) for _ in range(17))
+        idle = (17, (tuple(range(17)),) * 6)
+        turn = (17, tuple(tuple((p + k) % 17 for p in range(17)) for k in range(6)))
+        twice = lines[:16] + (tuple(a - 10 ** 250 * b for a, b in zip(lines[3], lines[7])),)
+        for book, value, fault in (
+                (idle, (lines,), None), (idle, tuple((line,) for line in lines), None), (turn, (lines,), None),
+                (turn, (lines[:1], lines[1:]), ("kept", 0, 1)), (turn, (twice,), ("line", 16))):
+            self.gives(fault, judge_stairs, book, value)
+
     def test_form(self):
         for value in ANYTHING:
             self.gives(("form",), judge_stairs, EXCHANGE, value)
